@@ -1,0 +1,1 @@
+"""Images of a drum machine read back as programs."""
