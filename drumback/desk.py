@@ -1,6 +1,6 @@
 """The desk: a list of calls on one new machine goes in, the list of their answers comes back."""
 
-from drumback.calls import new, peek, place, poke, run, told
+from drumback.calls import new, peek, place, poke, reach, rewind, run, tell_placing, tell_text, told, why
 from drumback.machine import Machine
 
 
@@ -55,6 +55,26 @@ def answer_told(machine, reader):
     return told(machine)
 
 
+def answer_rewind(machine, reader):
+    return rewind(machine)
+
+
+def answer_reach(machine, reader):
+    return reach(machine)
+
+
+def answer_why(machine, reader):
+    return why(machine)
+
+
+def answer_text(machine, reader):
+    return tell_text(machine)
+
+
+def answer_placing(machine, reader):
+    return tell_placing(machine)
+
+
 CALLS = {
     1: answer_new,
     2: answer_poke,
@@ -62,6 +82,11 @@ CALLS = {
     4: answer_place,
     5: answer_run,
     6: answer_told,
+    7: answer_rewind,
+    8: answer_reach,
+    9: answer_why,
+    10: answer_text,
+    11: answer_placing,
 }
 
 

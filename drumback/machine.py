@@ -12,11 +12,14 @@ class Machine:
 
     def renew(self, start):
         self.drum = [0] * DRUM_SIZE
+        self.n = start
+        self.rewind()
+
+    def rewind(self):
         self.a = 0
         self.d = 0
         self.over = 0
         self.t = 0
-        self.n = start
         self.state = 0
 
     def keep(self, number):

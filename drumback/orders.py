@@ -1,6 +1,6 @@
 """The table of orders, and an order's word put together and taken apart."""
 
-from drumback.words import DRUM_SIZE
+from drumback.words import BAND_SIZE, DRUM_SIZE
 
 CODE_STEP = 100000000
 DATA_STEP = 10000
@@ -45,6 +45,19 @@ ORDERS = {
 
 def operand_of(code):
     return ORDERS[code][1]
+
+
+def letters_of(code):
+    return ORDERS[code][0]
+
+
+def words_used(code):
+    """How many words from the data address on, around the band, an order of this code uses."""
+    if code == TLU:
+        return BAND_SIZE
+    if code in (RDC, PCH):
+        return CARD_SIZE
+    return 1 if operand_of(code) == "word" else 0
 
 
 def code_of_letters(letters):

@@ -18,9 +18,9 @@ def peek(a):
     return [3, a]
 
 
-def place(text, placing):
-    codes = list(text.encode("latin-1")) if isinstance(text, str) else list(text)
-    return [4, len(codes)] + codes + [len(placing)] + list(placing)
+def place(lines, addresses):
+    codes = list(lines.encode("latin-1")) if isinstance(lines, str) else list(lines)
+    return [4, len(codes)] + codes + [len(addresses)] + list(addresses)
 
 
 def run(orders, cards=()):
@@ -29,6 +29,26 @@ def run(orders, cards=()):
 
 def told():
     return [6]
+
+
+def rewind():
+    return [7]
+
+
+def reach():
+    return [8]
+
+
+def why():
+    return [9]
+
+
+def text():
+    return [10]
+
+
+def placing():
+    return [11]
 
 
 def ask(*calls):
@@ -62,6 +82,44 @@ def drum_but_zeros(*calls):
             if answer != [0, 0]:
                 found[a] = answer[1]
     return found
+
+
+def image(n, words):
+    """The calls that make a new machine whose next order is at n, with these words on its drum."""
+    return [new(n)] + [poke(a, v) for a, v in words.items()]
+
+
+def filled(words):
+    """The 293 calls that write 2000 words on the drum; the next order is at 1960 then.
+
+    Cards bring all but the last band, read by orders in that band, which is written over last.
+    """
+    calls = [new(1960)]
+    for first in range(0, 1960, 320):
+        starts = range(first, min(first + 320, 1960), 8)
+        for k, start in enumerate(starts):
+            calls.append(poke(1960 + k, order(70, start, 1960 + (k + 1) % len(starts))))
+        calls.append(run(len(starts), words[first:first + 8 * len(starts)]))
+    return calls + [poke(a, words[a]) for a in range(1960, 2000)]
+
+
+def reached(*calls):
+    """What reach answers behind the calls: of each address its mark."""
+    answer = last(*calls, reach())
+    assert answer[0] == 0 and answer[1::2] == sorted(set(answer[1::2])), answer
+    return dict(zip(answer[1::2], answer[2::2]))
+
+
+def listed(*calls):
+    """The text and the placing behind the calls."""
+    lines, addresses = ask(*calls, text(), placing())[-2:]
+    assert lines[0] == 0 and addresses[0] == 0, (lines, addresses)
+    return bytes(lines[1:]).decode("ascii"), addresses[1:]
+
+
+def everything(*calls):
+    """All that can be asked of the machine behind the calls: what is told, and what lies on the drum."""
+    return last(*calls, told()), drum_but_zeros(*calls)
 
 
 def prepared(a, d):
